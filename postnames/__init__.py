@@ -1,0 +1,1 @@
+"""Messages of the name system: read as text, and put together."""

@@ -3,6 +3,7 @@
 KIND_A = 1
 KIND_TXT = 16
 KIND_AAAA = 28
+KIND_SRV = 33
 
 KIND_NAMES = {
     1: "A",
@@ -32,3 +33,5 @@ CLASS_NAMES = {1: "IN", 3: "CH", 4: "HS"}
 
 SECTION_NAMES = ("Q", "AN", "NS", "AR")
 QUESTIONS = 0
+ANSWERS = 1
+MORE = 3

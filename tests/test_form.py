@@ -169,6 +169,45 @@ class Code(unittest.TestCase):
             for stem in free:
                 del drawn[stem]
 
+    def test_locals_are_called_apart(self):
+        for stem, tree in trees().items():
+            taken = {alias.name for node in imports(tree) for alias in node.names}
+            taken |= {node.name for node in tree.body if isinstance(node, ast.ClassDef)}
+            for function in ast.walk(tree):
+                if not isinstance(function, ast.FunctionDef):
+                    continue
+                for node in ast.walk(function):
+                    if isinstance(node, ast.arg):
+                        self.assertNotIn(node.arg, taken, (stem, node.lineno))
+                    if isinstance(node, ast.Name) and isinstance(node.ctx, ast.Store):
+                        self.assertNotIn(node.id, taken, (stem, node.lineno))
+
+    def test_lists_and_dicts_of_the_top_are_only_read(self):
+        for stem, tree in trees().items():
+            for node in tree.body:
+                if isinstance(node, ast.Assign) and isinstance(node.value, (ast.List, ast.Dict)):
+                    within = [part for part in ast.walk(node.value) if isinstance(part, (ast.List, ast.Dict))]
+                    self.assertEqual(within, [node.value], (stem, node.lineno))
+            for node in ast.walk(tree):
+                if isinstance(node, (ast.Attribute, ast.Subscript)) and isinstance(node.ctx, ast.Store):
+                    self.assertNotIsInstance(node.value, ast.Constant, (stem, node.lineno))
+                    if isinstance(node.value, ast.Name):
+                        self.assertFalse(node.value.id.isupper(), (stem, node.lineno))
+
+    def test_walked_at_once(self):
+        walks = ("range", "zip", "enumerate", "reversed")
+        for stem, tree in trees().items():
+            fitting = set()
+            for node in ast.walk(tree):
+                if isinstance(node, (ast.For, ast.comprehension)):
+                    fitting.add(id(node.iter))
+                if isinstance(node, ast.Call) and node.args and isinstance(node.func, ast.Name):
+                    if node.func.id in ("list", "tuple", "dict", "sorted", "sum", "any", "all", "enumerate", "zip"):
+                        fitting.add(id(node.args[0]))
+            for node in ast.walk(tree):
+                if isinstance(node, ast.Call) and isinstance(node.func, ast.Name) and node.func.id in walks:
+                    self.assertIn(id(node), fitting, (stem, node.lineno))
+
     def test_methods_and_values_are_called_apart(self):
         methods = set()
         values = set()

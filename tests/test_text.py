@@ -5,7 +5,7 @@ import io
 import sys
 import unittest
 
-from building import MOST, labels, lines, message, name, pointer, question, record, two
+from building import MOST, Guarded, labels, lines, message, name, pointer, question, record, two
 
 from postnames.desk import text
 
@@ -16,16 +16,6 @@ SMALL_TEXT = 'ID 7 FLAGS 0000\nQ a IN A\nAN a 0 IN TXT "\\034x" ""\n'
 def of_size(size):
     """A message of so many bytes: one record of the root."""
     return message(answers=[record([0], 10, [5] * (size - 23))])
-
-
-class Guarded(list):
-    """A list that tells if it is changed, be it for a while only."""
-
-    def refuse(self, *given):
-        raise AssertionError("what was handed in is changed")
-
-    __setitem__ = __delitem__ = __iadd__ = __imul__ = refuse
-    append = extend = insert = pop = remove = clear = sort = reverse = refuse
 
 
 class Answers(unittest.TestCase):
